@@ -48,6 +48,11 @@ func Distance(kind int, a []int, b []int) int {
 	return distanceOf(kind, gapsOf(point(a), point(b)))
 }
 
+// validKind reports whether there is such a kind of distances.
+func validKind(kind int) bool {
+	return kind >= DistSum && kind <= DistCount
+}
+
 // gapsOf returns the absolute differences of coordinates.
 func gapsOf(a point, b point) point {
 	var gaps point
