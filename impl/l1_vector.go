@@ -29,11 +29,26 @@ type point [Dims]int
 
 // ValidVector reports whether a vector is valid.
 func ValidVector(v []int) bool {
-	if len(v) != Dims {
+	return len(v) == Dims && validCoords(v)
+}
+
+// validCoords reports whether numbers can all be coordinates of a vector, however many there are.
+func validCoords(coords []int) bool {
+	for _, c := range coords {
+		if c < -MaxCoord || c > MaxCoord {
+			return false
+		}
+	}
+	return true
+}
+
+// validVectors reports whether there is at least one vector, at most a number of them, and each one is valid.
+func validVectors(list [][]int, most int) bool {
+	if len(list) < 1 || len(list) > most {
 		return false
 	}
-	for _, c := range v {
-		if c < -MaxCoord || c > MaxCoord {
+	for _, v := range list {
+		if !ValidVector(v) {
 			return false
 		}
 	}
@@ -96,14 +111,11 @@ func DotOf(a []int, b []int) (int, bool) {
 
 // MeanOf returns the mean of vectors.
 func MeanOf(list [][]int) []int {
-	if len(list) < 1 || len(list) > MaxItems {
+	if !validVectors(list, MaxItems) {
 		return nil
 	}
 	var mean point
 	for _, v := range list {
-		if !ValidVector(v) {
-			return nil
-		}
 		for i, c := range v {
 			mean[i] += c
 		}

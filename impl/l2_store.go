@@ -106,6 +106,26 @@ func placeOf(list []Item, key int) (int, bool) {
 	})
 }
 
+// itemsThat returns those items that a function chooses, in order. Their vectors are not copied.
+func itemsThat(list []Item, chosen func(Item) bool) []Item {
+	var out []Item
+	for _, x := range list {
+		if chosen(x) {
+			out = append(out, x)
+		}
+	}
+	return out
+}
+
+// keysOf returns the keys of items.
+func keysOf(list []Item) []int {
+	keys := make([]int, len(list))
+	for i, x := range list {
+		keys[i] = x.Key
+	}
+	return keys
+}
+
 // copyItem returns an item whose vector has memory of its own.
 func copyItem(x Item) Item {
 	return Item{Key: x.Key, At: slices.Clone(x.At), Tags: x.Tags}

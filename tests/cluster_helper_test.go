@@ -39,12 +39,21 @@ func clusterCentres(list []impl.Item) [][][]int {
 	return out
 }
 
-// badCentres returns centres that are not valid: none, one too many, and each place with each vector that is not valid.
+// badCentres returns centres that are not valid.
 func badCentres() [][][]int {
-	out := [][][]int{nil, {}, slices.Repeat([][]int{flat(0)}, impl.MaxCentres+1), slices.Repeat([][]int{flat(1)}, 100)}
-	out = append(out, [][]int{flat(0), flat(1), flat(2), flat(3), flat(4)})
+	return badVectorLists(impl.MaxCentres)
+}
+
+// badVectorLists returns lists of vectors that are not valid: none, one too many, and each place with each vector that is not valid.
+func badVectorLists(most int) [][][]int {
+	out := [][][]int{nil, {}, slices.Repeat([][]int{flat(0)}, most+1), slices.Repeat([][]int{flat(1)}, 100)}
+	var different [][]int
+	for i := range most + 1 {
+		different = append(different, flat(i))
+	}
+	out = append(out, different)
 	for _, bad := range badVectors() {
-		for many := 1; many <= impl.MaxCentres; many++ {
+		for many := 1; many <= most; many++ {
 			for i := range many {
 				list := slices.Repeat([][]int{flat(2)}, many)
 				list[i] = bad
@@ -52,7 +61,7 @@ func badCentres() [][][]int {
 			}
 		}
 	}
-	return append(out, append(slices.Repeat([][]int{flat(0)}, impl.MaxCentres), nil))
+	return append(out, append(slices.Repeat([][]int{flat(0)}, most), nil))
 }
 
 // badProbes returns numbers of centres that no search can ask for.
