@@ -35,12 +35,17 @@ func ValidStore(list []Item) bool {
 
 // validItem reports whether an item can be in a store.
 func validItem(x Item) bool {
-	return validKey(x.Key) && ValidVector(x.At) && x.Tags >= 0 && x.Tags <= MaxTags
+	return validKey(x.Key) && ValidVector(x.At) && validTags(x.Tags)
 }
 
 // validKey reports whether a key can be that of an item.
 func validKey(key int) bool {
 	return key >= 1 && key <= MaxKey
+}
+
+// validTags reports whether a number can be the tags of an item.
+func validTags(tags int) bool {
+	return tags >= 0 && tags <= MaxTags
 }
 
 // PutItem returns a store with an item.

@@ -154,6 +154,15 @@ func keysOf(list []impl.Item) []int {
 	return out
 }
 
+// hitKeys returns the keys of hits.
+func hitKeys(list []impl.Hit) []int {
+	var out []int
+	for _, h := range list {
+		out = append(out, h.Key)
+	}
+	return out
+}
+
 // nearestOf returns Nearest, which has to have as many hits as wanted, or all.
 func nearestOf(t *testing.T, list []impl.Item, kind int, at []int, k int) []impl.Hit {
 	t.Helper()
