@@ -21,8 +21,8 @@ const DistSquare = 3
 // DistCount is the number of differences.
 const DistCount = 4
 
-// maxPart is the part of a way, in per mille, that is the whole way.
-const maxPart = 1000
+// perMille is the whole of what is told in per mille.
+const perMille = 1000
 
 // point holds the coordinates of a vector. It is an array, so that a copy of it shares no memory.
 type point [Dims]int
@@ -128,12 +128,12 @@ func MeanOf(list [][]int) []int {
 
 // MoveTo returns a vector on the way to another one.
 func MoveTo(a []int, b []int, part int) []int {
-	if !ValidVector(a) || !ValidVector(b) || part < 0 || part > maxPart {
+	if !ValidVector(a) || !ValidVector(b) || part < 0 || part > perMille {
 		return nil
 	}
 	var out point
 	for i := range out {
-		out[i] = a[i] + divideDown((b[i]-a[i])*part, maxPart)
+		out[i] = a[i] + divideDown((b[i]-a[i])*part, perMille)
 	}
 	return out[:]
 }
