@@ -131,6 +131,18 @@ func keysOf(list []Item) []int {
 	return keys
 }
 
+// equalItems reports whether two items are equal.
+func equalItems(a Item, b Item) bool {
+	return a.Key == b.Key && a.Tags == b.Tags && slices.Equal(a.At, b.At)
+}
+
+// hasItem reports whether a store has an item just so.
+func hasItem(list []Item, x Item) bool {
+	return slices.ContainsFunc(list, func(y Item) bool {
+		return equalItems(x, y)
+	})
+}
+
 // copyItem returns an item whose vector has memory of its own.
 func copyItem(x Item) Item {
 	return Item{Key: x.Key, At: slices.Clone(x.At), Tags: x.Tags}
